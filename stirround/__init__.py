@@ -1,0 +1,1 @@
+"""Stirround: loops over a row that is stirred while they go round."""

@@ -1,0 +1,181 @@
+"""A second, slow telling of the document, to hold the program against.
+
+Things are numbered as they are put in, so that a thing that comes back under
+its old name is another one. A gap stands in the row as a sign of its own.
+"""
+
+import random
+
+from stirround.errors import Full, Gone, NoName, NoPlace, There
+
+RULES = ("none", "ahead", "all")
+NAMES = ["a", "b", "c", "d", "e", "f", "g", "h", "ab", "abcdefgh", "zz", "z"]
+FORTY = ["n" + one + other for one in "abcde" for other in "stuvwxyz"]
+
+
+def refusal_of(row, deed):
+    """The refusal (its class, its field) that the deed is due, or None."""
+    places = range(len(row) + 1)
+    if deed[0] == "put":
+        if not (0 < len(deed[1]) < 9 and set(deed[1]) <= set("abcdefghijklmnopqrstuvwxyz")):
+            return (NoName, deed[1])
+        if row.count(deed[1]):
+            return (There, deed[1])
+        if deed[2] not in places:
+            return (NoPlace, deed[2])
+        return (Full, None) if len(row) == 40 else None
+    if deed[0] == "turn":
+        if deed[1] not in places:
+            return (NoPlace, deed[1])
+        return None if deed[2] in places[deed[1]:] else (NoPlace, deed[2])
+    if not row.count(deed[1]):
+        return (Gone, deed[1])
+    if deed[0] == "move" and deed[2] not in places[:-1]:
+        return (NoPlace, deed[2])
+    return None
+
+
+def field_of(error):
+    """The one value that a refusal bears, None where it bears none."""
+    values = list(vars(error).values())
+    return values[0] if values else None
+
+
+class Told:
+    """One loop over a World, with all that became of it."""
+
+    def __init__(self, world, rule):
+        self.world = world
+        self.rule = rule
+        self.coming = list(world.things)
+        self.owed = list(world.things)
+        self.gap_in = ["GAP"] + list(world.things)
+
+    def gap(self):
+        return self.gap_in.index("GAP")
+
+    def ahead(self):
+        return self.gap_in[self.gap() + 1:]
+
+    def put(self, thing, at):
+        if at < self.gap():
+            self.gap_in.insert(at, thing)
+        else:
+            self.gap_in.insert(at + 1, thing)
+
+    def joined_by(self, thing):
+        if self.rule == "all" or (self.rule == "ahead" and thing in self.ahead()):
+            self.coming.append(thing)
+            self.owed.append(thing)
+
+    def taken(self, thing):
+        self.gap_in.remove(thing)
+
+    def forgotten(self, thing):
+        if thing in self.coming:
+            self.coming.remove(thing)
+            self.owed.remove(thing)
+
+    def turned(self):
+        gap = self.gap()
+        self.gap_in = self.world.things[:gap] + ["GAP"] + self.world.things[gap:]
+
+    def step(self):
+        """The number of the thing that is told, or None."""
+        ways = self.ahead() + self.world.things
+        due = [thing for thing in ways if thing in self.coming]
+        if not due:
+            return None
+        self.coming.remove(due[0])
+        self.gap_in.remove("GAP")
+        self.gap_in.insert(self.gap_in.index(due[0]) + 1, "GAP")
+        return due[0]
+
+    def as_loop(self):
+        return (self.rule, self.gap(), tuple(sorted(self.world.names[thing] for thing in self.coming)))
+
+
+class World:
+    """A row of numbered things, and the loops over it."""
+
+    def __init__(self, row):
+        self.names = dict(enumerate(row))
+        self.things = list(self.names)
+        self.loops = []
+
+    def row(self):
+        return [self.names[thing] for thing in self.things]
+
+    def begin(self, rule):
+        self.loops.append(Told(self, rule))
+        return self.loops[-1]
+
+    def set_at(self, loop, gap, coming):
+        """Puts a loop where the test wants it."""
+        loop.gap_in.remove("GAP")
+        loop.gap_in.insert(gap, "GAP")
+        loop.coming = [thing for thing in self.things if self.names[thing] in coming]
+        loop.owed = list(loop.coming)
+
+    def act(self, deed):
+        if deed[0] == "put":
+            self.names[len(self.names)] = deed[1]
+            self.put(len(self.names) - 1, deed[2])
+            for loop in self.loops:
+                loop.joined_by(len(self.names) - 1)
+        elif deed[0] == "turn":
+            stretch = self.things[deed[1]:deed[2]]
+            stretch.reverse()
+            self.things[deed[1]:deed[2]] = stretch
+            for loop in self.loops:
+                loop.turned()
+        else:
+            thing = next(one for one in self.things if self.names[one] == deed[1])
+            self.things.remove(thing)
+            for loop in self.loops:
+                loop.taken(thing)
+                if deed[0] == "take":
+                    loop.forgotten(thing)
+            if deed[0] == "move":
+                self.put(thing, deed[2])
+
+    def put(self, thing, at):
+        self.things.insert(at, thing)
+        for loop in self.loops:
+            loop.put(thing, at)
+
+
+def all_deeds(row, names, beyond=0):
+    """Every deed with one of the names, places up to so many beyond the bounds."""
+    places = range(-beyond, len(row) + 1 + beyond)
+    deeds = []
+    for name in names:
+        deeds.append(("take", name))
+        for at in places:
+            deeds.append(("put", name, at))
+            deeds.append(("move", name, at))
+    for low in places:
+        for high in places:
+            deeds.append(("turn", low, high))
+    return deeds
+
+
+def drawn_deed(draw, row, kinds=("put", "take", "move", "turn")):
+    """A deed that is not refused, or None where none of the kinds will do."""
+    free = [name for name in NAMES if name not in row]
+    kinds = [kind for kind in kinds if kind == "turn" or (free if kind == "put" else row)]
+    if not kinds:
+        return None
+    kind = draw.choice(kinds)
+    if kind == "put":
+        return (kind, draw.choice(free), draw.randint(0, len(row)))
+    if kind == "take":
+        return (kind, draw.choice(row))
+    if kind == "move":
+        return (kind, draw.choice(row), draw.randrange(len(row)))
+    low = draw.randint(0, len(row))
+    return (kind, low, draw.randint(low, len(row)))
+
+
+def drawn(seed):
+    return random.Random(seed)
