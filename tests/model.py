@@ -5,8 +5,9 @@ its old name is another one. A gap stands in the row as a sign of its own.
 """
 
 import random
+import unittest
 
-from stirround.errors import Full, Gone, NoName, NoPlace, There
+from stirround.errors import Full, Gone, NoName, NoPlace, StirError, There
 
 RULES = ("none", "ahead", "all")
 NAMES = ["a", "b", "c", "d", "e", "f", "g", "h", "ab", "abcdefgh", "zz", "z"]
@@ -39,6 +40,14 @@ def field_of(error):
     """The one value that a refusal bears, None where it bears none."""
     values = list(vars(error).values())
     return values[0] if values else None
+
+
+class RefusalCase(unittest.TestCase):
+    def assert_refused(self, error, field, call, *arguments):
+        with self.assertRaises(StirError) as caught:
+            call(*arguments)
+        self.assertIs(type(caught.exception), error)
+        self.assertEqual(field_of(caught.exception), field)
 
 
 class Told:

@@ -1,8 +1,6 @@
-import unittest
-
 from stirround.deeds import done, gap_behind, place_of, undoing
-from stirround.errors import Full, Gone, NoName, NoPlace, StirError, There
-from tests.model import FORTY, World, all_deeds, drawn, drawn_deed, field_of, refusal_of
+from stirround.errors import Full, Gone, NoName, NoPlace, There
+from tests.model import FORTY, RefusalCase, World, all_deeds, drawn, drawn_deed, refusal_of
 
 ROW = ["a", "b", "c", "d"]
 BIG = 10 ** 59
@@ -11,13 +9,7 @@ SHORT = [[], ["a"], ["b", "a"], ["c", "a", "b"], ["b", "d", "a", "c"]]
 TRIED = ["a", "b", "c", "d", "e", "A", ""]
 
 
-class DeedsCase(unittest.TestCase):
-    def assert_refused(self, error, field, call, *arguments):
-        with self.assertRaises(StirError) as caught:
-            call(*arguments)
-        self.assertIs(type(caught.exception), error)
-        self.assertEqual(field_of(caught.exception), field)
-
+class DeedsCase(RefusalCase):
     def assert_deed_refused(self, row, deed, error, field=None):
         """Refused by all that take a deed, of a list and of a tuple, and nothing is changed."""
         for handed in (list(row), tuple(row)):

@@ -1,10 +1,9 @@
-import unittest
 from itertools import combinations
 
 from stirround.deeds import done
-from stirround.errors import Full, Gone, NoLoop, NoName, NoPlace, NoRule, StirError, There
+from stirround.errors import Full, Gone, NoLoop, NoName, NoPlace, NoRule, There
 from stirround.loops import begun, is_loop, led, rest, step
-from tests.model import FORTY, RULES, World, all_deeds, field_of, refusal_of
+from tests.model import FORTY, RULES, RefusalCase, World, all_deeds, refusal_of
 
 ROW = ["d", "b", "a", "c"]
 NO_RULES = ["", "None", "ALL", "all ", "ahea", "aheads", "any", "nonee", "n", "none\n"]
@@ -36,15 +35,7 @@ def modelled(row, loop):
     return (world, told)
 
 
-class LoopsCase(unittest.TestCase):
-    def assert_refused(self, error, field, call, *arguments):
-        with self.assertRaises(StirError) as caught:
-            call(*arguments)
-        self.assertIs(type(caught.exception), error)
-        self.assertEqual(field_of(caught.exception), field)
-
-
-class IsLoopTest(LoopsCase):
+class IsLoopTest(RefusalCase):
     def test_loops(self):
         for row in ([], ["b"], ["c", "a", "b"], ROW):
             for loop in all_loops(row):
@@ -79,7 +70,7 @@ class IsLoopTest(LoopsCase):
         self.assertIs(is_loop(row, ("all", 0, ("ab", "a"))), False)
 
 
-class BegunTest(LoopsCase):
+class BegunTest(RefusalCase):
     def test_begun(self):
         for rule in RULES:
             self.assertEqual(begun([], rule), (rule, 0, ()))
@@ -105,7 +96,7 @@ class BegunTest(LoopsCase):
                 self.assert_refused(NoRule, rule, begun, (), rule)
 
 
-class LedTest(LoopsCase):
+class LedTest(RefusalCase):
     def test_put(self):
         for rule, behind, ahead in (("none", 0, 0), ("ahead", 0, 1), ("all", 1, 1)):
             for at in range(5):
@@ -182,7 +173,7 @@ class LedTest(LoopsCase):
         self.assert_refused(NoLoop, None, led, FORTY, ("no", 0, ()), ("put", "x", 0))
 
 
-class StepTest(LoopsCase):
+class StepTest(RefusalCase):
     def test_ordinary(self):
         for rule in RULES:
             self.assertEqual(step(ROW, begun(ROW, rule)), ("d", (rule, 1, ("a", "b", "c"))))
@@ -219,7 +210,7 @@ class StepTest(LoopsCase):
             self.assert_refused(NoLoop, None, step, tuple(ROW), thing)
 
 
-class RestTest(LoopsCase):
+class RestTest(RefusalCase):
     def test_ordinary(self):
         for rule in RULES:
             self.assertEqual(rest(ROW, begun(ROW, rule)), ROW)
