@@ -1,9 +1,10 @@
 """Loops: tuples (rule, gap, coming) that are led through deeds and step."""
 
-from stirround.deeds import gap_behind, is_gap, place_of
-from stirround.errors import NoLoop, NoRule
+from stirround.deeds import check_deed, gap_led, is_gap, place_of
+from stirround.errors import NoLoop, NoRule, TooMany
 
 RULES = ("none", "ahead", "all")
+MOST_LOOPS = 12
 
 
 def is_loop(row, thing):
@@ -17,16 +18,15 @@ def begun(row, rule):
 
 def led(row, loop, deed):
     check_loop(row, loop)
-    gap = gap_behind(row, loop[1], deed)
-    return (loop[0], gap, coming_behind(loop, deed))
+    check_deed(row, deed)
+    return loop_led(row, loop, deed)
 
 
 def step(row, loop):
     order = rest(row, loop)
     if order == []:
         return (None, loop)
-    name = order[0]
-    return (name, (loop[0], place_of(row, name) + 1, coming_without(loop[2], name)))
+    return (order[0], loop_telling(row, loop, order[0]))
 
 
 # A loop goes round once at most if nothing else is done, so no stepping is needed.
@@ -34,6 +34,15 @@ def rest(row, loop):
     check_loop(row, loop)
     gap = loop[1]
     return things_to_come(row[gap:], loop) + things_to_come(row[:gap], loop)
+
+
+# Checks nothing, so that a log can lead many loops through a deed that it has looked at once.
+def loop_led(row, loop, deed):
+    return (loop[0], gap_led(row, loop[1], deed), coming_behind(loop, deed))
+
+
+def loop_telling(row, loop, name):
+    return (loop[0], place_of(row, name) + 1, coming_without(loop[2], name))
 
 
 def check_rule(rule):
@@ -44,6 +53,14 @@ def check_rule(rule):
 def check_loop(row, loop):
     if not is_loop(row, loop):
         raise NoLoop("no loop of the row")
+
+
+# Their number goes first: it is the one refusal that stands ahead of NoLoop.
+def check_loops(row, loops):
+    if len(loops) > MOST_LOOPS:
+        raise TooMany("more loops than can be looked at together")
+    for loop in loops:
+        check_loop(row, loop)
 
 
 def is_coming(row, coming):

@@ -5,6 +5,7 @@ its old name is another one. A gap stands in the row as a sign of its own.
 """
 
 import random
+import re
 import unittest
 
 from stirround.errors import Full, Gone, NoName, NoPlace, StirError, There
@@ -95,10 +96,13 @@ class Told:
         due = [thing for thing in ways if thing in self.coming]
         if not due:
             return None
-        self.coming.remove(due[0])
-        self.gap_in.remove("GAP")
-        self.gap_in.insert(self.gap_in.index(due[0]) + 1, "GAP")
+        self.tell(due[0])
         return due[0]
+
+    def tell(self, thing):
+        self.coming.remove(thing)
+        self.gap_in.remove("GAP")
+        self.gap_in.insert(self.gap_in.index(thing) + 1, "GAP")
 
     def as_loop(self):
         return (self.rule, self.gap(), tuple(sorted(self.world.names[thing] for thing in self.coming)))
@@ -152,6 +156,107 @@ class World:
         self.things.insert(at, thing)
         for loop in self.loops:
             loop.put(thing, at)
+
+
+class Judge:
+    """Looks at a log entry by entry, and keeps all that each loop saw, thing by thing."""
+
+    def __init__(self, row):
+        self.world = World(row)
+        self.open = {}
+        self.seen = {}
+
+    def lets_by(self, entry):
+        if entry[0] == "begin":
+            if not re.fullmatch("[a-z]{1,8}", entry[1]) or entry[1] in self.seen or entry[2] not in RULES:
+                return False
+            self.open[entry[1]] = self.world.begin(entry[2])
+            self.seen[entry[1]] = {"begun": list(self.world.things), "joined": [], "told": [], "taken": [], "left": []}
+        elif entry[0] == "tell":
+            things = [] if entry[1] not in self.open else self.open[entry[1]].coming
+            due = [thing for thing in things if self.world.names[thing] == entry[2]]
+            if not due:
+                return False
+            self.open[entry[1]].tell(due[0])
+            self.seen[entry[1]]["told"].append(due[0])
+        elif entry[0] == "over":
+            if entry[1] not in self.open or self.open[entry[1]].coming:
+                return False
+            self.world.loops.remove(self.open.pop(entry[1]))
+        elif refusal_of(self.world.row(), entry) is not None:
+            return False
+        else:
+            self.act(entry)
+        return True
+
+    def act(self, deed):
+        ahead = {name: set(loop.coming) for name, loop in self.open.items()}
+        self.world.act(deed)
+        for name, loop in self.open.items():
+            self.seen[name]["joined"].extend(set(loop.coming) - ahead[name])
+            self.seen[name]["taken"].extend(ahead[name] - set(loop.coming))
+
+    def first_wrong(self, log):
+        for number, entry in enumerate(log):
+            if not self.lets_by(entry):
+                return number
+        return None
+
+    def loops(self):
+        return {name: loop.as_loop() for name, loop in self.open.items()}
+
+    def tally(self, name):
+        left = [] if name not in self.open else self.open[name].coming
+        return tuple(len(self.seen[name][part]) for part in ("begun", "joined", "told", "taken")) + (len(left),)
+
+
+def drawn_entry(draw, judge, names):
+    """A right entry behind what the judge has let by; loops are begun by these names."""
+    row = judge.world.row()
+    fresh = [name for name in names if name not in judge.seen]
+    tells = [
+        ("tell", name, judge.world.names[thing]) for name, loop in judge.open.items() for thing in loop.coming
+    ]
+    overs = [("over", name) for name, loop in judge.open.items() if not loop.coming]
+    kind = draw.choice(["begin", "tell", "tell", "tell", "over", "deed", "deed", "deed"])
+    if kind == "begin" and fresh:
+        return ("begin", draw.choice(fresh), draw.choice(RULES))
+    if kind == "tell" and tells:
+        return draw.choice(tells)
+    if kind == "over" and overs:
+        return draw.choice(overs)
+    return drawn_deed(draw, row, ("put", "take", "move", "turn") if len(row) < 40 else ("take", "move", "turn"))
+
+
+def drawn_log(draw, row, length, names):
+    """A right log of so many entries, tells in any order."""
+    judge = Judge(row)
+    log = []
+    while len(log) < length:
+        log.append(drawn_entry(draw, judge, names))
+        assert judge.lets_by(log[-1])
+    return log
+
+
+def drawn_loops(draw, row, many):
+    """Loops of the row, as like and unlike as it comes."""
+    loops = []
+    for number in range(many):
+        coming = draw.sample(sorted(row), draw.randint(0, len(row)))
+        if loops and draw.random() < 0.6:
+            other = draw.choice(loops)[2]
+            coming = [name for name in coming if name in other] if draw.random() < 0.5 else set(coming) | set(other)
+        loops.append((draw.choice(RULES), draw.randint(0, len(row)), tuple(sorted(coming))))
+    return loops
+
+
+# Gaps, rules and things to come that no loop of the row a b c has.
+NO_LOOPS_OF_ABC = [
+    ("", 0, ()), ("None", 0, ()), ("ahea", 0, ("a",)), ("all ", 0, ()), ("all", -1, ()), ("all", 4, ()),
+    ("none", 10 ** 59, ("a",)), ("none", -(10 ** 59), ()), ("all", 0, ("d",)), ("all", 0, ("a", "d")),
+    ("ahead", 0, ("", "a")), ("ahead", 1, ("A",)), ("all", 0, ("a", "a")), ("none", 2, ("b", "a")),
+    ("all", 0, ("a", "b", "c", "d")),
+]
 
 
 def all_deeds(row, names, beyond=0):

@@ -37,6 +37,17 @@ BANNED_NAMES = set(
     " copyright credits delattr dir eval exec exit gc getattr globals hasattr help id importlib license locals"
     " methodcaller os quit setattr super vars sys chr format format_map".split()
 )
+# Keywords of Python's own names (L22); own functions of the package are called without any.
+KEYWORDS = {
+    "sorted": {"key", "reverse"}, "min": {"key", "default"}, "max": {"key", "default"}, "sum": {"start"},
+    "enumerate": {"start"}, "zip": {"strict"},
+}
+ERRORS_TO_TAKE = {"KeyError", "ZeroDivisionError", "StopIteration"}
+# Names that no value of an object bears (L26), beside those that Python's own values have as methods.
+VALUES_TO_LEAVE = set(
+    "items keys values pop update append clear extend insert remove reverse setdefault sort args encode format".split()
+)
+VALUES_ALLOWED = set("count index title find get join lower upper split strip copy add".split())
 WALKED = {"zip", "enumerate", "reversed", "range"}
 WALKERS = {"list", "tuple", "dict", "sorted", "sum", "any", "all", "enumerate", "zip", "min", "max"}
 
@@ -213,5 +224,70 @@ class LanguageTest(unittest.TestCase):
                     walked = isinstance(above, (ast.For, ast.comprehension)) and above.iter is node
                     self.assertTrue(walked or called_name(above) in WALKERS)
                 if called_name(node) == "set":
-                    at_once = isinstance(above, (ast.Compare, ast.BinOp)) or called_name(above) in ("sorted", "len")
-                    self.assertTrue(at_once)
+                    among_sets = isinstance(above, ast.BinOp)
+                    while isinstance(above, ast.BinOp):
+                        self.assertIsInstance(above.op, (ast.Sub, ast.BitAnd, ast.BitOr, ast.BitXor))
+                        above = source.parents[above]
+                    at_once = called_name(above) in ("sorted", "len") and above.keywords == []
+                    self.assertTrue(at_once or (isinstance(above, ast.Compare) and not among_sets))
+
+    def test_walked_things_are_not_changed(self):
+        changers = {"append", "clear", "extend", "insert", "pop", "remove", "reverse", "setdefault", "update"}
+        for where, source, node in self.each(ast.For):
+            walked = node.iter
+            if called_name(walked) in ("enumerate", "zip", "reversed"):
+                walked = walked.args[0]
+            text = ast.unparse(walked)
+            for inner in ast.walk(node):
+                with self.subTest(where):
+                    if isinstance(inner, ast.Call) and isinstance(inner.func, ast.Attribute):
+                        self.assertFalse(inner.func.attr in changers and ast.unparse(inner.func.value) == text)
+                    if isinstance(inner, ast.Subscript) and isinstance(inner.ctx, ast.Store):
+                        self.assertNotEqual(ast.unparse(inner.value), text)
+
+    def test_methods_and_values(self):
+        methods, values = set(), set()
+        for where, source, node in self.each(ast.ClassDef):
+            names = [inner.name for inner in node.body if isinstance(inner, ast.FunctionDef)]
+            self.assertEqual(len(names), len(set(names)), where)
+            self.assertIs(source.parents[node], source.tree, where)
+            methods |= set(names)
+        for where, source, node in self.each(ast.Attribute):
+            if isinstance(node.ctx, ast.Store):
+                values.add(node.attr)
+                self.assertIsInstance(node.value, ast.Name, where)
+        self.assertEqual(methods & values, set())
+        of_python = {name for kind in (str, int, list, dict, set, bytes, tuple) for name in dir(kind)}
+        self.assertEqual(values & (VALUES_TO_LEAVE | (of_python - VALUES_ALLOWED)), set())
+        self.assertEqual((methods - DUNDERS) & (of_python - METHODS - {"add", "discard"}), set())
+
+    def test_calls(self):
+        for where, source, node in self.each(ast.Call):
+            with self.subTest(where):
+                used = {keyword.arg for keyword in node.keywords}
+                self.assertLessEqual(used, KEYWORDS.get(called_name(node), set()))
+        for where, source, node in self.each(ast.Name):
+            with self.subTest(where):
+                if node.id in ("len", "sorted", "set", "range", "zip", "enumerate", "reversed", "any", "all", "sum"):
+                    above = source.parents[node]
+                    self.assertTrue(isinstance(above, ast.Call) and above.func is node or isinstance(above, ast.keyword))
+
+    def test_errors(self):
+        own = {node.name for source in self.sources for node in source.of(ast.ClassDef)}
+        for where, source, node in self.each(ast.ExceptHandler):
+            with self.subTest(where):
+                self.assertIsInstance(node.type, ast.Name)
+                self.assertIn(node.type.id, own | ERRORS_TO_TAKE)
+        for where, source, node in self.each(ast.Raise):
+            with self.subTest(where):
+                self.assertIn(called_name(node.exc), own)
+
+    def test_powers_and_annotations(self):
+        for where, source, node in self.each(ast.BinOp, ast.AugAssign):
+            with self.subTest(where):
+                if isinstance(node.op, ast.Pow):
+                    self.assertIsInstance(node.right if isinstance(node, ast.BinOp) else None, ast.Constant)
+        for where, source, node in self.each(ast.arg):
+            self.assertIsNone(node.annotation, where)
+        for where, source, node in self.each(ast.FunctionDef):
+            self.assertIsNone(node.returns, where)
