@@ -6,11 +6,13 @@ its old name is another one. A gap stands in the row as a sign of its own.
 
 import random
 import re
+import sys
 import unittest
 
 from stirround.errors import Full, Gone, NoName, NoPlace, StirError, There
 
 RULES = ("none", "ahead", "all")
+WHERES = ("next", "last", "back", "first")
 NAMES = ["a", "b", "c", "d", "e", "f", "g", "h", "ab", "abcdefgh", "zz", "z"]
 FORTY = ["n" + one + other for one in "abcde" for other in "stuvwxyz"]
 
@@ -41,6 +43,23 @@ def field_of(error):
     """The one value that a refusal bears, None where it bears none."""
     values = list(vars(error).values())
     return values[0] if values else None
+
+
+def steps_of(call, *arguments):
+    """How many rows of code a call goes through."""
+    count = [0]
+
+    def tracer(frame, event, argument):
+        count[0] += event == "line"
+        return tracer
+
+    kept = sys.gettrace()
+    sys.settrace(tracer)
+    try:
+        call(*arguments)
+    finally:
+        sys.settrace(kept)
+    return count[0]
 
 
 class RefusalCase(unittest.TestCase):
@@ -248,6 +267,44 @@ def drawn_loops(draw, row, many):
             coming = [name for name in coming if name in other] if draw.random() < 0.5 else set(coming) | set(other)
         loops.append((draw.choice(RULES), draw.randint(0, len(row)), tuple(sorted(coming))))
     return loops
+
+
+def slow_ran(kinds, crowd, rule, most):
+    """The run through a crowd, done in a World of things that all have names of their own."""
+    errands = {word: (puts, goes) for word, puts, goes in kinds}
+    kind_of = {f"t{number}": word for number, word in enumerate(crowd)}
+    world = World(list(kind_of))
+    loop = world.begin(rule)
+    told, rounds = [], 0
+    while loop.coming and len(told) < most:
+        goes_round = not set(loop.ahead()) & set(loop.coming)
+        rounds += goes_round or not told
+        name = world.names[loop.step()]
+        told.append(kind_of[name])
+        puts, goes = errands[kind_of[name]]
+        pack = [name]
+        for where, word in puts:
+            row = world.row()
+            fresh = f"t{len(kind_of)}"
+            kind_of[fresh] = word
+            places = {"next": row.index(pack[-1]) + 1, "last": len(row), "back": row.index(name), "first": 0}
+            world.act(("put", fresh, places[where]))
+            pack.extend([fresh] if where == "next" else [])
+        if goes:
+            world.act(("take", name))
+    return told, [kind_of[name] for name in world.row()], rounds, not loop.coming
+
+
+def drawn_book(draw, ending=False, most_puts=3):
+    """Kinds in any order; where it is to end, each puts in such alone as stand behind it in another order."""
+    words = draw.sample(NAMES, draw.randint(1, 6))
+    others = draw.sample(words, len(words))
+    kinds = []
+    for word in words:
+        free = others[others.index(word) + 1:] if ending else words
+        puts = [(draw.choice(WHERES), draw.choice(free)) for number in range(draw.randint(0, most_puts)) if free]
+        kinds.append((word, puts, draw.random() < 0.5))
+    return kinds
 
 
 # Gaps, rules and things to come that no loop of the row a b c has.

@@ -1,9 +1,8 @@
-import sys
 from itertools import combinations, permutations, product
 
 from stirround.errors import NoLoop, TooMany
 from stirround.lines import lines_judged, lines_of
-from tests.model import FORTY, NAMES, NO_LOOPS_OF_ABC, RULES, RefusalCase, drawn, drawn_loops
+from tests.model import FORTY, NAMES, NO_LOOPS_OF_ABC, RULES, RefusalCase, drawn, drawn_loops, steps_of
 
 ABC = ["a", "b", "c"]
 ROW = ["b", "d", "a", "c"]
@@ -55,23 +54,6 @@ def slow_judged(row, loops, lines, seats, apart):
     if any(one >= other for one, other in zip(apart, apart[1:])) or any(n not in range(len(loops)) for n in apart):
         return False
     return len(apart) == len(lines) and stand_apart(loops, apart)
-
-
-def steps_of(call, *arguments):
-    """How many rows of code a call goes through."""
-    count = [0]
-
-    def tracer(frame, event, argument):
-        count[0] += event == "line"
-        return tracer
-
-    kept = sys.gettrace()
-    sys.settrace(tracer)
-    try:
-        call(*arguments)
-    finally:
-        sys.settrace(kept)
-    return count[0]
 
 
 def twelve_on_forty():
