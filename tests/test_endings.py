@@ -101,7 +101,8 @@ class EndingsCase(RefusalCase):
         self.assertEqual([type(part) for part in told[1:]], [list] * (2 if told[0] == "endless" else 1))
         self.assertTrue(slow_judged(kinds, crowd, rule, told), (kinds, crowd, rule, told))
         if told[0] == "ends":
-            self.assertEqual({(type(row), len(row), type(row[1])) for row in told[1]} | {(tuple, 3, tuple)}, {(tuple, 3, tuple)})
+            self.assertEqual({(type(row), len(row), type(row[1])) for row in told[1]} | {(tuple, 3, tuple)},
+                             {(tuple, 3, tuple)})
         handed = tuple(crowd)
         self.assertEqual(ending(book, handed, rule), told)
         self.assertEqual(handed, tuple(crowd))
@@ -133,7 +134,8 @@ class EndingTest(EndingsCase):
                 self.assertEqual(self.assert_ending(kinds, [], rule), ("ends", []))
 
     def test_tables(self):
-        kinds = [("c", [], True), ("a", [("next", "b"), ("first", "c"), ("next", "b")], True), ("x", [("next", "a")], True),
+        kinds = [("c", [], True), ("a", [("next", "b"), ("first", "c"), ("next", "b")], True),
+                 ("x", [("next", "a")], True),
                  ("b", [("last", "c"), ("back", "c")], False)]
         self.assertEqual(self.assert_ending(kinds, ["a", "a"], "none"), ("ends", [("a", (0, 1, 0, 0), 1)]))
         self.assertEqual(self.assert_ending(kinds, ["a", "c"], "ahead"),
@@ -145,7 +147,8 @@ class EndingTest(EndingsCase):
 
     def test_rounds(self):
         for wheres in product(WHERES, repeat=3):
-            kinds = [(word, [(where, behind)], True) for word, where, behind in zip("abc", wheres, "bcd")] + [("d", [], True)]
+            kinds = [(word, [(where, behind)], True) for word, where,
+                     behind in zip("abc", wheres, "bcd")] + [("d", [], True)]
             told = self.assert_ending(kinds, ["a"], "all")
             self.assertEqual(told[1][0][2], 1 + len([where for where in wheres if where in ("back", "first")]))
             self.assertEqual(told[1][3][2], 1)
@@ -188,12 +191,14 @@ class EndingTest(EndingsCase):
                 if rule == "none" or rule == "ahead" and not ahead:
                     self.assertEqual(table, [("a", (1,) + (0,) * 7, 1)])
                 else:
-                    rows = [(word, (0,) * number + tuple(6 ** power for power in range(8 - number)), 1 if ahead else 8 - number)
+                    rows = [(word, (0,) * number + tuple(6 ** power for power in range(8 - number)),
+                             1 if ahead else 8 - number)
                             for number, word in enumerate(EIGHT)]
                     self.assertEqual(table, rows)
 
     def test_each_kind_is_reckoned_once(self):
-        thick = [(word, [(WHERES[number % 4], behind) for number, behind in enumerate((EIGHT[place + 1:] * 6)[:6])], True)
+        thick = [(word, [(WHERES[number % 4], behind) for number, behind in enumerate((EIGHT[place + 1:] * 6)[:6])],
+                  True)
                  for place, word in enumerate(EIGHT)]
         for kinds in LADDERS + [thick, LADDERS[0][::-1], thick[::-1]]:
             book = Errands(kinds)
@@ -205,7 +210,8 @@ class EndingTest(EndingsCase):
 
     def test_rings_are_found_soon(self):
         for end in EIGHT:
-            kinds = [(word, [("next", behind)] * 5 + [("last", behind)], False) for word, behind in zip(EIGHT, EIGHT[1:])]
+            kinds = [(word, [("next", behind)] * 5 + [("last", behind)], False) for word,
+                     behind in zip(EIGHT, EIGHT[1:])]
             kinds.append(("h", [("last", end)], False))
             told = self.assert_ending(kinds, ["a"], "ahead")
             self.assertEqual(told[0], "endless")
@@ -253,8 +259,10 @@ class EndingJudgedTest(EndingsCase):
     def test_rows_of_a_table(self):
         table = self.TABLE
         more = ("c", (1, 2, 1, 5), 2)
-        for wrong in ([], table[:2], table[1:], table[::2], table[::-1], table + table[-1:], table[:1] + table, table + [more],
-                      table[:2] + [more] + table[2:], [table[1], table[0], table[2]], table[:2] + [("e", (0, 0, 0, 1), 1)],
+        for wrong in ([], table[:2], table[1:], table[::2], table[::-1], table + table[-1:], table[:1] + table,
+                      table + [more],
+                      table[:2] + [more] + table[2:], [table[1], table[0], table[2]],
+                      table[:2] + [("e", (0, 0, 0, 1), 1)],
                       table[:2] + [("", (0, 0, 0, 1), 1)], table[:2] + [("D", (0, 0, 0, 1), 1)]):
             self.assert_judged(False, self.KINDS, ["a"], "all", ("ends", wrong))
         self.assert_judged(False, self.KINDS, ["b"], "all", ("ends", table))
@@ -296,15 +304,19 @@ class EndingJudgedTest(EndingsCase):
 
     def test_wrong_ways(self):
         ring = ["a", "b", "d"]
-        for way in ([], ["c"], ["y"], ["x"], ["b"], ["d"], ["a", "a"], ["a", "b"], ["a", "d"], ["d", "a"], ["y", "b", "d", "a"],
-                    ["y", "c"], ["a", "b", "d", "a"], ["y", "a", "b", "d", "a"], ["e"], [""], ["y", "e", "a"], ["y", "", "a"],
+        for way in ([], ["c"], ["y"], ["x"], ["b"], ["d"], ["a", "a"], ["a", "b"], ["a", "d"], ["d", "a"],
+                    ["y", "b", "d", "a"],
+                    ["y", "c"], ["a", "b", "d", "a"], ["y", "a", "b", "d", "a"], ["e"], [""], ["y", "e", "a"],
+                    ["y", "", "a"],
                     ["e", "a"], ["a", "e"], ["y", "a", "a"], ["y", "y", "a"], ["c", "a"], ["a", "y"]):
             self.assert_judged(False, RINGS, ["y", "c"], "all", ("endless", way, ring))
         self.assert_judged(True, RINGS, ["y", "c"], "all", ("endless", ["y", "a"], ring))
 
     def test_wrong_rings(self):
-        for ring in ([], ["a"], ["a", "b"], ["a", "d"], ["a", "d", "b"], ["a", "b", "d", "a"], ["a", "b", "d", "a", "b", "d"],
-                     ["b", "d", "a"], ["a", "c"], ["a", "a"], ["a", "b", "x"], ["a", "e"], ["e"], [""], ["a", ""], ["x"],
+        for ring in ([], ["a"], ["a", "b"], ["a", "d"], ["a", "d", "b"], ["a", "b", "d", "a"],
+                     ["a", "b", "d", "a", "b", "d"],
+                     ["b", "d", "a"], ["a", "c"], ["a", "a"], ["a", "b", "x"], ["a", "e"], ["e"], [""], ["a", ""],
+                     ["x"],
                      ["a", "b", "b", "d"], ["a", "b", "d", "c"], ["a", "b", "e", "d"]):
             self.assert_judged(False, RINGS, ["a"], "all", ("endless", ["a"], ring))
         self.assert_judged(False, RINGS, ["c"], "all", ("endless", ["c"], ["c"]))
@@ -362,7 +374,8 @@ class ReckonedTest(EndingsCase):
 
     def test_ordinary(self):
         kinds = EndingJudgedTest.KINDS
-        self.assertEqual(self.assert_reckoned(kinds, ["a", "b", "a"], "all", slow_ran(kinds, ["a", "b", "a"], "all", 400)),
+        self.assertEqual(self.assert_reckoned(kinds, ["a", "b", "a"], "all",
+                                              slow_ran(kinds, ["a", "b", "a"], "all", 400)),
                          ((2, 5, 0, 12), 2, (0, 5, 0, 0)))
         self.assertEqual(self.assert_reckoned(kinds, ["a", "b"], "none", slow_ran(kinds, ["a", "b"], "none", 400)),
                          ((1, 1, 0, 0), 1, (0, 3, 0, 3)))
@@ -416,7 +429,8 @@ class NthTest(EndingsCase):
         self.assert_nth(RINGS, [], [])
 
     def test_ordinary(self):
-        kinds = [("a", [("last", "b"), ("next", "c"), ("back", "a"), ("last", "d")], True), ("b", [("next", "d")], True),
+        kinds = [("a", [("last", "b"), ("next", "c"), ("back", "a"), ("last", "d")], True),
+                 ("b", [("next", "d")], True),
                  ("c", [("last", "b"), ("next", "d")], False), ("d", [], True)]
         for crowd in (["a"], ["a", "a"], ["c", "a", "b"], ["a", "b", "c", "d"] * 3):
             told = slow_ran(kinds, crowd, "ahead", 400)[0]
@@ -444,7 +458,8 @@ class NthTest(EndingsCase):
         self.assertGreater(ended, 200)
 
     def test_ladders(self):
-        mixed = [(word, puts[:3] + [("last", puts[0][1])] * 2 + puts[:1] if puts else [], False) for word, puts, goes in LADDERS[0]]
+        mixed = [(word, puts[:3] + [("last", puts[0][1])] * 2 + puts[:1] if puts else [], False) for word, puts,
+                 goes in LADDERS[0]]
         for kinds in (LADDERS[0], LADDERS[1], mixed):
             told = told_in_order(kinds, ["a", "b"])
             book = Errands(kinds)

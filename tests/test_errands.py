@@ -40,7 +40,8 @@ class BookTest(RefusalCase):
 
     def test_too_many_kinds(self):
         self.assert_book_refused(TooMany, None, [])
-        for kinds in ([(word, [], True) for word in EIGHT + ["i"]], [("A", [], True)] * 9, [("a", [("no", "A")] * 7, True)] * 10):
+        for kinds in ([(word, [], True) for word in EIGHT + ["i"]], [("A", [], True)] * 9,
+                      [("a", [("no", "A")] * 7, True)] * 10):
             self.assert_book_refused(TooMany, None, kinds)
 
     def test_no_name(self):
@@ -54,7 +55,8 @@ class BookTest(RefusalCase):
     def test_there(self):
         self.assert_book_refused(There, "a", [("a", [], True), ("a", [], False)])
         self.assert_book_refused(There, "b", [("a", [], True), ("b", [], True), ("b", [], True), ("a", [], True)])
-        self.assert_book_refused(There, "a", [("a", [("no", "b")], True), ("a", [("no", "b")] * 7, True), ("B", [], True)])
+        self.assert_book_refused(There, "a", [("a", [("no", "b")], True), ("a", [("no", "b")] * 7, True),
+                                              ("B", [], True)])
 
     def test_too_many_puts(self):
         for puts in ([("next", "a")] * 7, [("no", "B")] * 8):
@@ -74,7 +76,8 @@ class BookTest(RefusalCase):
     def test_no_name_of_puts(self):
         for word in ["c", "ab"] + NO_NAMES:
             self.assert_book_refused(NoName, word, [("a", [("next", word)], True)])
-            self.assert_book_refused(NoName, word, [("a", [("next", "b"), ("last", word), ("no", "a")], True), ("b", [], True)])
+            self.assert_book_refused(NoName, word, [("a", [("next", "b"), ("last", word), ("no", "a")], True),
+                                                    ("b", [], True)])
             self.assert_book_refused(NoName, word, [("a", [], True), ("b", [("back", word), ("back", "q")], True)])
             self.assert_book_refused(NoName, word, [("a", [("next", word)], True), ("b", [("no", "b")], True)])
 
@@ -95,7 +98,8 @@ class BookTest(RefusalCase):
         for told in (book.words(), book.puts("a"), book.puts("b")):
             told.append("more")
             told[0] = "other"
-        self.assertEqual((book.words(), book.puts("a"), book.puts("b")), (["a", "b"], [("next", "a"), ("last", "b")], []))
+        self.assertEqual((book.words(), book.puts("a"), book.puts("b")),
+                         (["a", "b"], [("next", "a"), ("last", "b")], []))
         self.assertEqual((book.goes("a"), book.goes("b")), (True, False))
         self.assertEqual(ran(book, ["b"], "all", 9), (["b"], ["b"], 1, True))
 

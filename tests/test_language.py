@@ -152,6 +152,21 @@ class LanguageTest(unittest.TestCase):
                 for inner in node.body:
                     self.assertIsInstance(inner, (ast.FunctionDef, ast.Pass))
 
+    def test_lists_and_dicts_of_the_top_are_only_read(self):
+        for source in self.sources:
+            tops = [node for node in source.tree.body if isinstance(node, ast.Assign)]
+            kept = {node.targets[0].id: node.value for node in tops if isinstance(node.value, (ast.List, ast.Dict))}
+            for value in kept.values():
+                for inner in list(ast.walk(value))[1:]:
+                    self.assertNotIsInstance(inner, (ast.List, ast.Dict))
+            for node in source.of(ast.Name):
+                if node.id in kept and isinstance(node.ctx, ast.Load):
+                    with self.subTest(file=source.path.name, line=node.lineno):
+                        above = source.parents[node]
+                        indexed = isinstance(above, ast.Subscript) and above.value is node
+                        asked = isinstance(above, ast.Compare) or called_name(above) in ("len", "list", "dict", "sorted")
+                        self.assertTrue(asked or indexed and isinstance(above.ctx, ast.Load))
+
     def test_functions(self):
         for where, source, node in self.each(ast.FunctionDef):
             with self.subTest(where):

@@ -2,7 +2,9 @@ from itertools import combinations, product
 
 from stirround.errors import Full, NoLoop
 from stirround.twins import parted, trial_judged
-from tests.model import FORTY, NAMES, NO_LOOPS_OF_ABC, RULES, RefusalCase, World, drawn, drawn_deed, drawn_loops, refusal_of
+from tests.model import (
+    FORTY, NAMES, NO_LOOPS_OF_ABC, RULES, RefusalCase, World, drawn, drawn_deed, drawn_loops, refusal_of,
+)
 
 ABC = ["a", "b", "c"]
 STEP = ("step",)
@@ -10,8 +12,10 @@ LETTERS = "abcdefghijklmnopqrstuvwxyz"
 # Rows of 37 things with many of the names that come to mind first, so that what a trial puts in must look further.
 LONG_ROWS = [
     FORTY[:37], [letter + "a" for letter in LETTERS] + [letter + "b" for letter in LETTERS[:11]],
-    list(LETTERS) + ["a" + letter for letter in LETTERS[:11]], ["a" + letter for letter in LETTERS] + list(LETTERS[:11]),
-    [letter * many for letter in "abcde" for many in range(1, 9)][:37], ["x" + letter for letter in LETTERS] + NAMES[1:12],
+    list(LETTERS) + ["a" + letter for letter in LETTERS[:11]],
+    ["a" + letter for letter in LETTERS] + list(LETTERS[:11]),
+    [letter * many for letter in "abcde" for many in range(1, 9)][:37],
+    ["x" + letter for letter in LETTERS] + NAMES[1:12],
 ]
 
 
@@ -254,10 +258,12 @@ class TrialJudgedTest(RefusalCase):
         one, other, trial = ("all", 0, ("a",)), ("all", 0, ("a", "b")), [STEP, STEP]
         ones, others = ["a", None], ["a", "b"]
         self.assert_judged(True, ABC, one, other, trial, (ones, others))
-        for wrong in ([], ["a"], ["a", None, None], ["a", "b"], ["a", "c"], ["b", None], [None, "a"], [None, None], ["a", ""],
+        for wrong in ([], ["a"], ["a", None, None], ["a", "b"], ["a", "c"], ["b", None], [None, "a"], [None, None],
+                      ["a", ""],
                       ["a", "None"]):
             self.assert_judged(False, ABC, one, other, trial, (wrong, others))
-        for wrong in ([], ["a"], ["a", "b", "c"], ["a", "b", None], ["a", None], ["b", "b"], ["a", "a"], [None, "b"], ["b"],
+        for wrong in ([], ["a"], ["a", "b", "c"], ["a", "b", None], ["a", None], ["b", "b"], ["a", "a"], [None, "b"],
+                      ["b"],
                       ["b", "a"], ["a", "x"]):
             self.assert_judged(False, ABC, one, other, trial, (ones, wrong))
         for wrong in ((others, ones), (["b", None], ["b", "b"]), ([], []), ([None], ["b"])):

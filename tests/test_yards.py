@@ -252,7 +252,8 @@ class KeptLoopsTest(YardCase):
             yard, loops, deeds = Yard(row), {}, 0
             for turn in range(40):
                 name = draw.choice(LOOPS)
-                deed = drawn_deed(draw, row, ("take", "move", "turn") if len(row) == 40 else ("put", "take", "move", "turn"))
+                deed = drawn_deed(draw, row, ("take", "move", "turn")
+                                  if len(row) == 40 else ("put", "take", "move", "turn"))
                 kind = draw.choice(["begin", "step", "step", "drop", "deed", "deed", "deed"])
                 if kind == "begin" and name not in loops:
                     rule = draw.choice(RULES)
@@ -329,7 +330,8 @@ class TicketTest(YardCase):
             then = slow.world_at(number).row()
             coming = then[1:3] + then[4:]
             for rule, gap in product(RULES, range(len(then) + 1)):
-                pages = [self.assert_page(yard, slow, (number, rule, gap, slip), 4) for slip in slips_showing(then, coming)]
+                pages = [self.assert_page(yard, slow, (number, rule, gap, slip), 4)
+                         for slip in slips_showing(then, coming)]
                 self.assertEqual(pages, [pages[0]] * len(pages))
 
     def test_pages_of_a_kept_loop(self):
